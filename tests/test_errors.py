@@ -4,14 +4,16 @@ import unittest
 
 from typedcurve import errors
 from typedcurve.errors import (
-    BadLine, BadMachine, BadNumber, BadPaper, BadPlace, BadPoint, BadPoly, BadText, BadTurn, BadWaves, BadWord, CurveError,
+    BadLine, BadMachine, BadNumber, BadPaper, BadPlace, BadPoint, BadPoly, BadText, BadTurn, BadWaves, BadWord,
+    CurveError,
     Misfit, TooMany)
 
 PART_ERRORS = [
     BadNumber, BadPoint, BadTurn, BadPlace, BadPoly, BadWaves, BadMachine, BadWord, BadPaper, Misfit]
 FIELDS = {TooMany: ("what", "most"), BadText: ("line", "item"), BadLine: ("error",)}
 FIELDS.update({kind: ("part",) for kind in PART_ERRORS})
-ANY_VALUES = ["row", None, 7, True, 0.5, b"x", [1, [2]], (3,), {"a": []}, object(), ValueError("x"), 10 ** 5000, BadNumber]
+ANY_VALUES = ["row", None, 7, True, 0.5, b"x", [1, [2]], (3,), {"a": []}, object(), ValueError("x"), 10 ** 5000,
+    BadNumber]
 
 
 class TestErrors(unittest.TestCase):

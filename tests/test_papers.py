@@ -69,6 +69,11 @@ class TestPapers(Case):
         self.same((note.word, note.parts), (plain.word, plain.parts))
         self.same([note == plain, plain == note, note == Note(rows=(1,), text="a")], [False, False, True])
 
+    def test_foreign_class_of_the_same_name(self):
+        for kind in (Paper, Denial):
+            foreign = type(kind.__name__, (), {"word": "note", "parts": ()})()
+            self.same([kind("note") == foreign, foreign == kind("note")], [False, False])
+
     def test_values_that_are_no_papers(self):
         for value in (None, "note", ("note",), (), 1, True, {}, object(), Paper):
             self.same([Paper("note") == value, value == Paper("note")], [False, False])
@@ -90,7 +95,8 @@ class TestPapers(Case):
 
     def test_class_of_papers(self):
         note = Note("a", [[1], 2])
-        self.same([note.word, note.parts, note.text, note.rows, bool(note)], ["note", ("a", ((1,), 2)), "a", ((1,), 2), True])
+        self.same([note.word, note.parts, note.text, note.rows, bool(note)],
+            ["note", ("a", ((1,), 2)), "a", ((1,), 2), True])
 
 
 class TestFixed(Case):

@@ -1,0 +1,66 @@
+"""The interface: each name is defined in its module, with parameters of the names that are told."""
+
+import importlib
+import inspect
+import os
+import unittest
+
+MODULES = {
+    "errors": {
+        "BadNumber": "part", "BadPoint": "part", "BadTurn": "part", "BadPlace": "part", "BadPoly": "part",
+        "BadWaves": "part",
+        "BadMachine": "part", "BadWord": "part", "BadPaper": "part", "Misfit": "part", "TooMany": "what most",
+        "BadText": "line item", "BadLine": "error"},
+    "checks": {
+        "is_integer": "value", "is_within": "value least most", "is_number": "value", "is_point": "value",
+        "is_turn": "value"},
+    "papers": {"Paper": "word parts", "Denial": "word parts", "fixed": "value"},
+    "numbers": {
+        "plus": "one other", "minus": "one other", "times": "one other", "quotient": "one other",
+        "is_below": "one other",
+        "sign_of": "number", "root_of": "number", "number_text": "number", "read_number": "text"},
+    "lines": {
+        "value_at": "row number", "slope_row": "row", "row_product": "one other", "count_roots": "row low high",
+        "roots_of": "row near"},
+    "polys": {
+        "Poly": "terms", "poly_sum": "one other", "poly_product": "one other", "poly_times": "poly number",
+        "value": "poly point", "slope": "poly unknown", "put_in": "poly one other", "moved": "poly point",
+        "turned_poly": "poly turn", "stretched": "poly number"},
+    "poly_texts": {"poly_text": "poly", "read_poly": "text", "typed": "text"},
+    "turns": {
+        "added": "one other", "back_turn": "turn", "doubled": "turn", "multiplied": "turn many",
+        "turn_between": "one other",
+        "turned": "point turn", "by_half": "number", "half_of": "turn"},
+    "waves": {
+        "Waves": "constant rows", "waves_sum": "one other", "waves_product": "one other", "waves_times": "waves number",
+        "exchanged": "waves", "beat_turn": "beat a b", "worth_at": "waves a b", "slopes_at": "waves a b",
+        "waves_of": "poly radius", "poly_of": "waves radius", "cosines": "waves"},
+}
+
+
+class TestInterface(unittest.TestCase):
+    def test_each_name_is_defined_in_its_module(self):
+        for module_name, names in MODULES.items():
+            module = importlib.import_module("typedcurve." + module_name)
+            for name in names:
+                self.assertEqual(getattr(module, name).__module__, module.__name__, name)
+
+    def test_parameters(self):
+        for module_name, names in MODULES.items():
+            module = importlib.import_module("typedcurve." + module_name)
+            for name, parameters in names.items():
+                self.assertEqual(list(inspect.signature(getattr(module, name)).parameters), parameters.split(" "), name)
+
+    def test_classes_compare_by_themselves(self):
+        for module_name, name in (("papers", "Paper"), ("papers", "Denial"), ("polys", "Poly"), ("waves", "Waves")):
+            kind = getattr(importlib.import_module("typedcurve." + module_name), name)
+            self.assertIn("__eq__", vars(kind))
+
+    def test_the_package_is_one_folder_of_files(self):
+        folder = os.path.dirname(importlib.import_module("typedcurve").__file__)
+        for name in os.listdir(folder):
+            self.assertTrue(name.endswith(".py") or name == "__pycache__", name)
+
+
+if __name__ == "__main__":
+    unittest.main()

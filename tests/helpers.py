@@ -1,7 +1,14 @@
 """What the tests share: an independent arithmetic by Python's fractions, and a test of errors."""
 
 import unittest
+from decimal import Decimal, getcontext
 from fractions import Fraction
+from random import Random
+
+from typedcurve.machines import Machine
+
+# Decimals tell where places stand, far more exactly than the tests ask for.
+getcontext().prec = 120
 
 # No one of these is a number: wrong kinds, wrong lengths, and pairs that are not in their one form.
 NO_NUMBERS = [
@@ -21,6 +28,27 @@ NO_TURNS = NO_POINTS + [
     (0, 0), (1, 1), (2, 0), (0, -2), ((1, 2), (1, 2)), ((3, 5), (3, 5)), ((3, 5), (4, 7)), ((1, 2), (3, 5)),
     (1, (1, 2)),
 ]
+
+# No one of these is a place; some have a point, an aside and a root, but not in one of both forms.
+NO_PLACES = [
+    True, None, 0, "place", (), [], (1, 2), ((1, 2), (1, 2)), ((0, 0), (0, 0)), ((0, 0), (0, 0), 0, 0), {}, 0.5,
+    ((0, 0), (0, 0), 2), ((0, 0), (0, 0), (1, 2)), ((0, 0), (1, 0), 0), ((0, 0), (2, -4), 3), ((0, 0), (0, 2), 3),
+    ((0, 0), (-3, 0), 2), ((0, 0), (1, 0), 4), ((0, 0), (1, 1), (9, 4)), ((0, 0), (1, 0), 1), ((0, 0), (1, 0), -2),
+    ((0, 0), (1, 0), (-1, 2)), ((0, 0), ((1, 2), 1), 2), ((0, 0), (1, (1, 2)), 2), ((0, 0), (1,), 2),
+    ((0, 0), (1, 0, 0), 2), ((0, 0), (True, 0), 2), ((0, 0), (1, False), 2), ((0, 0), (1.0, 0), 2),
+    ((0, 0), None, 2), ((0, 0), 1, 2), ((0, 0), "10", 2), ((0, 0), (0, 0), False), ((0, 0), (1, 0), True),
+    ((0, 0), (1, 0), (4, 2)), ((0, 0), (1, 0), (2, 1)), ((0, 0), (1, 0), None), ((0, 0), (1, 0), "2"),
+    ((0, 0), (0, 0), None), ((0, 0), (0, 0), 0.0), (0, (0, 0), 0), (((4, 2), 0), (0, 0), 0), ((0, True), (0, 0), 0),
+    ((0, 0, 0), (0, 0), 0), (None, (0, 0), 0), ((0,), (1, 0), 2),
+]
+
+# Neither of these is 1 or -1.
+NO_SIDES = [0, 2, -2, True, False, None, 1.0, -1.0, "1", (1, 2), (1, 1), [1], (1,), (), 10 ** 40, object()]
+
+# No one of these is a number above 0.
+NO_LENGTHS = NO_NUMBERS + [0, -1, (-1, 2), [-7, 3], -10 ** 40]
+
+NO_MACHINES = [None, True, 0, (), [], "machine 1 0", (1, (), (), (), 0), {}, object(), Machine]
 
 
 def number(fraction):
@@ -60,6 +88,42 @@ def turn_times(turn, many):
     return x, y
 
 
+def spot(place):
+    """Where a place stands, as two decimals of many digits."""
+    (x, y), (i, j), root = place
+    step = decimal(root).sqrt()
+    return decimal(x) + i * step, decimal(y) + j * step
+
+
+def decimal(value):
+    """The decimal of many digits of a number."""
+    above, below = (value, 1) if isinstance(value, int) else value
+    return Decimal(above) / Decimal(below)
+
+
+def square_between(one, other):
+    """The square of the distance of two places, as a decimal of many digits."""
+    (x, y), (u, v) = spot(one), spot(other)
+    return (x - u) ** 2 + (y - v) ** 2
+
+
+def tent():
+    """Two pins, two bars that meet above them, and a bead on one of these."""
+    return Machine(4, [(1, (4, 0)), (0, [0, 0])], [(2, 0, 3), (1, 2, 3)], [(3, 2, 0, (1, 3))], 3)
+
+
+def some_machine(seed, many):
+    """What makes a machine with many parts, in no order."""
+    random = Random(seed)
+    pins = [(joint, (number(Fraction(random.randint(-9, 9), 4)), joint)) for joint in range(many) if random.randrange(2)]
+    bars, beads = {}, {}
+    for _ in range(3 * many):
+        one, other, joint = random.sample(range(many), 3)
+        bars[frozenset((one, other))] = (one, other, number(Fraction(random.randint(1, 9), random.randint(1, 4))))
+        beads[joint, frozenset((one, other))] = (joint, one, other, number(Fraction(random.randint(-9, 9), 4)))
+    return many, pins, list(bars.values()), list(beads.values()), random.randrange(many)
+
+
 class Case(unittest.TestCase):
     """A test case that compares errors with their fields, and values with their kinds."""
 
@@ -76,3 +140,7 @@ class Case(unittest.TestCase):
     def same(self, got, wanted):
         """Both are equal, and of the same kinds throughout."""
         self.assertEqual(repr(got), repr(wanted))
+
+    def near(self, got, wanted):
+        """Two decimals are equal, but for their last digits."""
+        self.assertLess(abs(got - wanted), Decimal(10) ** -80, f"{got} in the place of {wanted}")

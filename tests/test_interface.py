@@ -31,6 +31,18 @@ MODULES = {
         "added": "one other", "back_turn": "turn", "doubled": "turn", "multiplied": "turn many",
         "turn_between": "one other",
         "turned": "point turn", "by_half": "number", "half_of": "turn"},
+    "machines": {"Machine": "many pins bars beads pen", "cut_list": "machine", "islands": "machine"},
+    "joins": {
+        "renamed": "machine order", "joined": "one other pairs", "without": "machine joints",
+        "island_of": "machine joint"},
+    "places": {
+        "is_place": "value", "place_of": "point aside root", "as_point": "place", "stands_off": "one other",
+        "is_far": "one other length", "between": "one other share", "are_kin": "one other",
+        "moved_place": "place turn point"},
+    "poses": {
+        "Right": "", "Torn": "kind at", "judged": "machine places", "shows_pose": "machine value",
+        "measured": "machine places", "kin_of": "places joint", "mirrored_aside": "places joint",
+        "turned_over": "places joint"},
     "waves": {
         "Waves": "constant rows", "waves_sum": "one other", "waves_product": "one other", "waves_times": "waves number",
         "exchanged": "waves", "beat_turn": "beat a b", "worth_at": "waves a b", "slopes_at": "waves a b",
@@ -49,12 +61,22 @@ class TestInterface(unittest.TestCase):
         for module_name, names in MODULES.items():
             module = importlib.import_module("typedcurve." + module_name)
             for name, parameters in names.items():
-                self.assertEqual(list(inspect.signature(getattr(module, name)).parameters), parameters.split(" "), name)
+                self.assertEqual(list(inspect.signature(getattr(module, name)).parameters), parameters.split(), name)
 
     def test_classes_compare_by_themselves(self):
-        for module_name, name in (("papers", "Paper"), ("papers", "Denial"), ("polys", "Poly"), ("waves", "Waves")):
+        for module_name, name in (("papers", "Paper"), ("papers", "Denial"), ("polys", "Poly"), ("waves", "Waves"),
+                                  ("machines", "Machine")):
             kind = getattr(importlib.import_module("typedcurve." + module_name), name)
             self.assertIn("__eq__", vars(kind))
+
+    def test_methods_are_defined_in_their_class(self):
+        kind = importlib.import_module("typedcurve.machines").Machine
+        for name, parameters in {
+                "__str__": "self", "pins_at": "self joint", "bars_at": "self joint", "beads_at": "self joint",
+                "linked": "self joint"}.items():
+            self.assertEqual(list(inspect.signature(vars(kind)[name]).parameters), parameters.split(), name)
+        self.assertIn("read", vars(kind))
+        self.assertEqual(list(inspect.signature(kind.read).parameters), ["text"])
 
     def test_the_package_is_one_folder_of_files(self):
         folder = os.path.dirname(importlib.import_module("typedcurve").__file__)

@@ -1,6 +1,6 @@
 """Boxes around the roots of a row that are no numbers."""
 
-from typedcurve.ratios import difference_of, is_less, product_of, sum_of
+from typedcurve.ratios import HALF, difference_of, is_less, product_of, sum_of
 from typedcurve.whole_rows import changes_at, sign_at, sturm_chain
 
 
@@ -53,4 +53,4 @@ def _has_any(low, high, others):
 
 
 def _middle(low, high):
-    return product_of((1, 2), sum_of(low, high))
+    return product_of(HALF, sum_of(low, high))

@@ -2,6 +2,9 @@
 
 from math import gcd
 
+HALF = (1, 2)
+QUARTER = (1, 4)
+
 
 def parts_of(number):
     """What stands above and below the line of a number, below being 1 for an integer."""
@@ -32,6 +35,12 @@ def negative_of(number):
     """The number with the other sign."""
     above, below = parts_of(number)
     return number_of(-above, below)
+
+
+def size_of(number):
+    """The number without its sign."""
+    above, below = parts_of(number)
+    return number_of(abs(above), below)
 
 
 def difference_of(one, other):
@@ -71,3 +80,16 @@ def is_less(one, other):
     one_above, one_below = parts_of(one)
     other_above, other_below = parts_of(other)
     return one_above * other_below < other_above * one_below
+
+
+def ascending(numbers):
+    """A list of numbers, the least one first."""
+    if len(numbers) < 2:
+        return list(numbers)
+    half = len(numbers) // 2
+    low, high = ascending(numbers[:half]), ascending(numbers[half:])
+    merged = []
+    # Both are gone through from behind, where pop is quick.
+    while low and high:
+        merged.append(low.pop() if is_less(high[-1], low[-1]) else high.pop())
+    return low + high + merged[::-1]

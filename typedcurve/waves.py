@@ -6,12 +6,11 @@ from typedcurve.errors import BadWaves, TooMany
 from typedcurve.papers import fixed
 from typedcurve.polys import Poly, constant_poly, need_poly, poly_sum, poly_times
 from typedcurve.ratios import (
-    difference_of, negative_of, power_of, product_of, quotient_of, sign_in, sum_of)
+    HALF, difference_of, negative_of, power_of, product_of, quotient_of, sign_in, sum_of)
 from typedcurve.spirals import spiral
 from typedcurve.turns import added, doubled, multiplied
 
 MOST_SIZE = 6
-HALF = (1, 2)
 
 
 class Waves:

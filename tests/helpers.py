@@ -3,6 +3,7 @@
 import unittest
 from decimal import Decimal, getcontext
 from fractions import Fraction
+from itertools import product
 from random import Random
 
 from typedcurve.machines import Machine
@@ -115,13 +116,35 @@ def tent():
 def some_machine(seed, many):
     """What makes a machine with many parts, in no order."""
     random = Random(seed)
-    pins = [(joint, (number(Fraction(random.randint(-9, 9), 4)), joint)) for joint in range(many) if random.randrange(2)]
+    pins = [(joint, (number(Fraction(random.randint(-9, 9), 4)), joint))
+        for joint in range(many) if random.randrange(2)]
     bars, beads = {}, {}
     for _ in range(3 * many):
         one, other, joint = random.sample(range(many), 3)
         bars[frozenset((one, other))] = (one, other, number(Fraction(random.randint(1, 9), random.randint(1, 4))))
         beads[joint, frozenset((one, other))] = (joint, one, other, number(Fraction(random.randint(-9, 9), 4)))
     return many, pins, list(bars.values()), list(beads.values()), random.randrange(many)
+
+
+def square(one, other):
+    """The square of the distance of two points, as a fraction."""
+    (x, y), (u, v) = fractions(one), fractions(other)
+    return (x - u) ** 2 + (y - v) ** 2
+
+
+def gone(point, turn, length):
+    """A point gone on by a length in the direction of a turn."""
+    (x, y), (c, s), far = fractions(point), fractions(turn), fraction(length)
+    return number(x + far * c), number(y + far * s)
+
+
+def some_frames():
+    """The lengths and three corners of frames, turned in many ways, some flat, some nearly so."""
+    nearly = ((10 ** 12 - 1, 10 ** 12 + 1), (2 * 10 ** 6, 10 ** 12 + 1))
+    lengths = [(1, 2), (2, 4), ((1, 2), (2, 3)), ([9, 2], (15, 2)), (1, (10 ** 20 + 1, 10 ** 20)), (3, 100)]
+    for (s, t), o in product(lengths, [(0, 0), ((1, 2), -3)]):
+        for to_a, to_b in product(some_turns() + [nearly], [(1, 0), (0, -1), ((-3, 5), (4, 5))]):
+            yield s, t, o, gone(o, to_a, s), gone(o, to_b, t)
 
 
 class Case(unittest.TestCase):

@@ -43,6 +43,20 @@ MODULES = {
         "Right": "", "Torn": "kind at", "judged": "machine places", "shows_pose": "machine value",
         "measured": "machine places", "kin_of": "places joint", "mirrored_aside": "places joint",
         "turned_over": "places joint"},
+    "frames": {
+        "mirrored": "point one other", "corners": "s t o a b", "is_flat": "o a b", "midpoints": "o a c b",
+        "spread": "o a c b"},
+    "locks": {
+        "lock_for": "s t", "lock_kind": "s t m n", "locked_corners": "s t m n o a b",
+        "key_place": "o a c b m side"},
+    "words": {"is_word": "value", "made_of": "word", "steps": "words", "word_turn": "word a b"},
+    "reflectors": {
+        "reflected": "x y", "reflector_points": "x y", "reflector_places": "x y side", "candidates": "x y",
+        "reflector_parts": "first x_ray y_ray"},
+    "carriers": {
+        "carrier_length": "numbers", "carrier_places": "v w length side",
+        "carrier_parts": "first v ray number length", "arm_points": "radius one other",
+        "arm_parts": "first one_ray other_ray radius"},
     "waves": {
         "Waves": "constant rows", "waves_sum": "one other", "waves_product": "one other", "waves_times": "waves number",
         "exchanged": "waves", "beat_turn": "beat a b", "worth_at": "waves a b", "slopes_at": "waves a b",

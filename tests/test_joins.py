@@ -79,7 +79,8 @@ class TestRenamed(Case):
             self.same(renamed(machine, list(range(machine.many))) == machine, True)
 
     def test_what_is_no_order(self):
-        for bad in NO_LISTS + [[], [0, 1, 2], [0, 1, 2, 3, 4], [0, 1, 2, 4], [1, 2, 3, 4], [0, 0, 1, 2], [[0, 1, 2, 3]]]:
+        for bad in NO_LISTS + [[], [0, 1, 2], [0, 1, 2, 3, 4], [0, 1, 2, 4], [1, 2, 3, 4], [0, 0, 1, 2],
+                [[0, 1, 2, 3]]]:
             self.refuses(BadNumber("order"), renamed, tent(), bad)
         for bad in NO_JOINTS:
             self.refuses(BadNumber("order"), renamed, tent(), [bad, 0, 2, 3])
@@ -136,7 +137,8 @@ class TestJoined(Case):
 
     def test_pen(self):
         one, other = Machine(3, [], [], [], 2), Machine(3, [], [], [], 1)
-        self.same([joined(one, other, []).pen, joined(one, other, [(2, 0)]).pen, joined(other, one, [(1, 0)]).pen], [2, 2, 1])
+        self.same([joined(one, other, []).pen, joined(one, other, [(2, 0)]).pen, joined(other, one, [(1, 0)]).pen],
+            [2, 2, 1])
 
     def test_too_many(self):
         great, small = Machine(3998, [(0, (0, 0))], [], [], 0), Machine(3, [(0, (1, 0))], [], [], 0)

@@ -20,7 +20,8 @@ NO_TEXTS = [
     ("machine 3 0 0", 0, 3), ("machine 3 0 ", 0, 3), ("machine 3 0 pin 0 0 0", 0, 3), ("machine 3 0 x\nx", 0, 3),
     ("machine 3\npin", 0, 2),
     # first items
-    ("machine 3 0\n", 1, 0), ("machine 3 0\n ", 1, 0), ("machine 3 0\nmachine 3 0", 1, 0), ("machine 3 0\nPin 0 0 0", 1, 0),
+    ("machine 3 0\n", 1, 0), ("machine 3 0\n ", 1, 0), ("machine 3 0\nmachine 3 0", 1, 0),
+    ("machine 3 0\nPin 0 0 0", 1, 0),
     ("machine 3 0\n pin 0 0 0", 1, 0), ("machine 3 0\nrod 0 1 2", 1, 0), ("machine 3 0\n0 1 2", 1, 0),
     ("machine 3 0\nbar 0 1 2\npin 0 0 0", 2, 0), ("machine 3 0\nbead 0 1 2 2\nbar 0 1 2", 2, 0),
     ("machine 3 0\nbead 0 1 2 2\npin 0 0 0", 2, 0), ("machine 3 0\nbar 0 1 2\npin 9 x", 2, 0),
@@ -128,7 +129,8 @@ class TestErrors(Case):
         for line, row in enumerate(rows):
             for at in range(len(row)):
                 for bad in ("", "x", "+1", "01", "-0", "1/1", "2/4", "1.0", "1e1", "6", "\u0661", "1/-2", "/2", "2/"):
-                    if bad == "6" and (at == 0 or at > len(row) - {"pin": 2, "machine": 0}.get(row[0], 1) - 1 or line == 0):
+                    if bad == "6" and (at == 0
+                            or at > len(row) - {"pin": 2, "machine": 0}.get(row[0], 1) - 1 or line == 0):
                         continue
                     self.refused(rows, line, row[:at] + [bad] + row[at + 1:], at)
                 self.refused(rows, line, row[:at] + [""] + row[at:], at)
@@ -142,7 +144,8 @@ class TestErrors(Case):
         self.refuses(BadText(line, item), Machine.read, "\n".join(lines))
 
     def test_lines_left_out_told_twice_exchanged(self):
-        lines = ["machine 6 2", "pin 0 1/2 -3", "pin 4 0 0", "bar 1 4 2", "bar 2 3 5/2", "bead 3 1 4 1", "bead 5 0 2 -2"]
+        lines = ["machine 6 2", "pin 0 1/2 -3", "pin 4 0 0", "bar 1 4 2", "bar 2 3 5/2", "bead 3 1 4 1",
+            "bead 5 0 2 -2"]
         for at in range(1, len(lines)):
             left = lines[:at] + lines[at + 1:]
             self.same(str(Machine.read("\n".join(left))), "\n".join(left))

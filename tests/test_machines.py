@@ -73,7 +73,8 @@ class TestForm(Case):
             self.same(machine.beads, tuple(sorted(kept, key=lambda bead: bead[:3])))
 
     def test_exchanged_beads(self):
-        for share, other_share in ((0, 1), (1, 0), ((1, 2), (1, 2)), ((1, 3), (2, 3)), (-1, 2), (5, -4), ([-7, 2], (9, 2))):
+        for share, other_share in ((0, 1), (1, 0), ((1, 2), (1, 2)), ((1, 3), (2, 3)), (-1, 2), (5, -4),
+                ([-7, 2], (9, 2))):
             self.same(Machine(3, [], [], [(0, 2, 1, share)], 0).beads, ((0, 1, 2, other_share),))
             kept = tuple(share) if isinstance(share, list) else share
             self.same(Machine(3, [], [], [(0, 1, 2, share)], 0).beads, ((0, 1, 2, kept),))
@@ -158,7 +159,8 @@ class TestAtJoints(Case):
 
 class TestLengthsAndIslands(Case):
     def test_lengths_ascending(self):
-        lengths = [3, (1, 2), (10, 3), (7, 2), 2, (1, 3), 10, (99, 10), (1, 2), 3, 3, (2, 3), (10 ** 30 + 1, 10 ** 30), 1]
+        lengths = [3, (1, 2), (10, 3), (7, 2), 2, (1, 3), 10, (99, 10), (1, 2), 3, 3, (2, 3),
+            (10 ** 30 + 1, 10 ** 30), 1]
         bars = [(at, at + 1, length) for at, length in enumerate(lengths)]
         wanted = tuple((length, lengths.count(length)) for length in sorted(set(lengths), key=fraction))
         self.same(cut_list(Machine(len(bars) + 1, [], bars, [], 0)), wanted)
@@ -176,7 +178,8 @@ class TestLengthsAndIslands(Case):
     def test_islands(self):
         self.same(islands(Machine(1, [], [], [], 0)), ((0,),))
         self.same(islands(Machine(6, [], [(5, 0, 1), (4, 2, 1)], [(3, 4, 1, 1)], 0)), ((0, 5), (1, 2, 3, 4)))
-        self.same(islands(Machine(7, [], [(0, 6, 1), (6, 1, 1), (1, 5, 1), (2, 3, 1)], [], 0)), ((0, 1, 5, 6), (2, 3), (4,)))
+        self.same(islands(Machine(7, [], [(0, 6, 1), (6, 1, 1), (1, 5, 1), (2, 3, 1)], [], 0)),
+            ((0, 1, 5, 6), (2, 3), (4,)))
         self.same(islands(machine=Machine(3, [], [], [(0, 1, 2, 0)], 0)), ((0, 1, 2),))
 
     def test_errors(self):

@@ -1,7 +1,6 @@
 """[8]: places."""
 
 import unittest
-from decimal import Decimal
 from fractions import Fraction
 from itertools import product
 from math import gcd, isqrt
@@ -18,8 +17,10 @@ from typedcurve.turns import back_turn, turned
 LEFT, RIGHT, TOP = ((0, 0), (0, 0), 0), ((4, 0), (0, 0), 0), ((2, 0), (0, 1), 5)
 PLACES = [
     LEFT, RIGHT, TOP, ((2, 0), (0, -1), 5), ((0, 0), (1, 0), 2), ((0, 0), (0, 1), 2), ((1, 0), (0, 1), 8),
-    (((1, 2), (-3, 7)), (2, -3), 2), (((1, 2), (-3, 7)), (3, 2), 3), ((0, 0), (1, 1), (1, 2)), ((5, 5), (-1, 1), (9, 2)),
-    [[0, [1, 2]], [1, -2], 12], ((0, 0), (1, 0), 3), (((1, 2), 0), (0, 0), 0), ((0, 0), (-2, 1), 6), ((0, 3), (2, 1), 6),
+    (((1, 2), (-3, 7)), (2, -3), 2), (((1, 2), (-3, 7)), (3, 2), 3), ((0, 0), (1, 1), (1, 2)),
+    ((5, 5), (-1, 1), (9, 2)),
+    [[0, [1, 2]], [1, -2], 12], ((0, 0), (1, 0), 3), (((1, 2), 0), (0, 0), 0), ((0, 0), (-2, 1), 6),
+    ((0, 3), (2, 1), 6),
     ((0, 0), (1, 0), (5, 9)), ((10 ** 30, 1), (10 ** 20, 1), (10 ** 20 + 1, 10 ** 19)),
 ]
 SHARES = [0, 1, (1, 2), -1, 2, (-2, 3), [5, 4], (1, 4)]
@@ -138,7 +139,8 @@ class TestIsPlace(Case):
 
 class TestPlaceOf(Case):
     POINTS = [(0, 0), (1, -2), ((1, 2), (-3, 4)), [[5, 3], 7]]
-    ASIDES = [(0, 0), (1, 0), (0, -3), (2, -4), (-6, -9), ((1, 2), (1, 3)), [[-3, 4], 6], ((5, 7), 0), (1, (1, 10 ** 20))]
+    ASIDES = [(0, 0), (1, 0), (0, -3), (2, -4), (-6, -9), ((1, 2), (1, 3)), [[-3, 4], 6], ((5, 7), 0),
+        (1, (1, 10 ** 20))]
     ROOTS = [0, 1, 4, 2, 3, 8, 12, 50, (1, 4), (9, 16), (1, 2), (8, 9), [3, 50], (7, 3), 10 ** 40, 10 ** 39]
 
     def test_one_form_of_one_spot(self):
@@ -178,7 +180,8 @@ class TestPlaceOf(Case):
 
 class TestAsPoint(Case):
     def test_points(self):
-        self.same([as_point(LEFT), as_point([[[1, 2], 3], [0, 0], 0]), as_point(place=RIGHT)], [(0, 0), ((1, 2), 3), (4, 0)])
+        self.same([as_point(LEFT), as_point([[[1, 2], 3], [0, 0], 0]), as_point(place=RIGHT)],
+            [(0, 0), ((1, 2), 3), (4, 0)])
         for place in PLACES:
             self.same(as_point(place), fix(place)[0] if place[2] == 0 else None)
 
@@ -210,7 +213,8 @@ class TestDistances(Case):
         numbers = [0, 1, -1, 2, (1, 2), (-3, 2)]
         for _ in range(3000):
             one, other = [
-                place_of((random.choice(numbers), random.choice(numbers)), (random.randint(-2, 2), random.randint(-2, 2)),
+                place_of((random.choice(numbers), random.choice(numbers)),
+                (random.randint(-2, 2), random.randint(-2, 2)),
                          random.choice([0, 1, 2, 3, 6, 8, (1, 2), (4, 3)])) for _ in range(2)]
             self.check(one, other)
 

@@ -43,7 +43,8 @@ class TestExamples(Case):
              shows_pose(machine, pose), shows_pose(machine, pose[:3]), shows_pose(value=None, machine=machine)],
             [True, 'right', (), True, False, False])
         self.same(
-            [judged(machine, [LEFT, RIGHT, ((2, 0), (0, 1), 6), TOP]).parts, judged(machine, [LEFT, RIGHT, TOP, TOP]).parts,
+            [judged(machine, [LEFT, RIGHT, ((2, 0), (0, 1), 6), TOP]).parts,
+            judged(machine, [LEFT, RIGHT, TOP, TOP]).parts,
              judged(machine, [TOP, RIGHT, TOP, LEFT]) == Torn("pin", 0)],
             [('bar', 0), ('bead', 0), True])
 
@@ -72,7 +73,8 @@ class TestPapers(Case):
     def test_torn(self):
         paper = Torn("bar", 3)
         self.same([paper.word, paper.parts, paper.kind, paper.at, bool(paper)], ["torn", ("bar", 3), "bar", 3, False])
-        self.same([paper == Torn(at=3, kind="bar"), paper == Torn("bar", 2), paper == Torn("pin", 3)], [True, False, False])
+        self.same([paper == Torn(at=3, kind="bar"), paper == Torn("bar", 2), paper == Torn("pin", 3)],
+            [True, False, False])
         self.same([paper == Denial("torn", "bar", 3), Denial("torn", "bar", 3) == paper, paper == Right()], [False] * 3)
         self.assertTrue(isinstance(paper, Denial))
         self.same([Torn([1, [2]], None).kind, Torn([1, [2]], None).parts], [(1, (2,)), ((1, (2,)), None)])
@@ -96,7 +98,8 @@ class TestJudged(Case):
 
     def test_lists_for_tuples(self):
         pose = [[[0, 0], [0, 0], 0], [[4, 0], [0, 0], 0], [[2, 0], [0, 1], 5], [[1, 0], [0, 1], [5, 4]]]
-        self.same([judged(tent(), pose) == Right(), shows_pose(tent(), pose), measured(tent(), pose)], [True, True, (9, 9)])
+        self.same([judged(tent(), pose) == Right(), shows_pose(tent(), pose), measured(tent(), pose)],
+            [True, True, (9, 9)])
 
     def test_pins(self):
         machine = Machine(3, [(0, (0, 0)), (1, ((1, 2), 3)), (2, (1, 1))], [], [], 0)
@@ -145,7 +148,8 @@ class TestJudged(Case):
             self.same(judged(machine, pose) == Torn(*parts), True)
 
     def test_shows_any_value(self):
-        for value in (None, True, 0, "", "0123", {}, {0: LEFT}, 0.5, object(), POSE[:3], POSE + [LEFT], [POSE], LEFT, Right()):
+        for value in (None, True, 0, "", "0123", {}, {0: LEFT}, 0.5, object(), POSE[:3], POSE + [LEFT], [POSE], LEFT,
+                Right()):
             self.same(shows_pose(tent(), value), False)
         for bad in NO_PLACES:
             for at in range(4):

@@ -75,9 +75,8 @@ def spot_between(one, other, share):
 def _by_one_root(one, other):
     """Both asides by one root, and this root; None if no root tells both."""
     (_, aside, root), (_, other_aside, other_root) = one, other
-    if other_root == 0:
-        return aside, other_aside, root
     if root == 0:
         return aside, other_aside, other_root
+    # An other root of 0 makes a step of 0, and its aside is none already.
     step = root_of(quotient_of(other_root, root))
     return None if step is None else (aside, point_times(other_aside, step), root)

@@ -7,6 +7,9 @@ from itertools import product
 from random import Random
 
 from typedcurve.machines import Machine
+from typedcurve.papers import Paper
+from typedcurve.polys import Poly, poly_sum
+from typedcurve.waves import Waves
 
 # Decimals tell where places stand, far more exactly than the tests ask for.
 getcontext().prec = 120
@@ -48,6 +51,18 @@ NO_SIDES = [0, 2, -2, True, False, None, 1.0, -1.0, "1", (1, 2), (1, 1), [1], (1
 
 # No one of these is a number above 0.
 NO_LENGTHS = NO_NUMBERS + [0, -1, (-1, 2), [-7, 3], -10 ** 40]
+
+# No one of these is a word; some have three numbers, but two odd ones, or too great ones.
+NO_WORDS = [
+    None, True, 0, 7, "", "200", "2 0 0", b"200", (), [], (2,), (2, 0), (2, 0, 0, 0), {}, {0: 2, 1: 0, 2: 0}, 0.5,
+    object(),
+    (1, 1, 0), (1, 0, 1), (0, 1, 1), (1, 1, 1), (-1, 3, 0), (5, 2, -7), (-1, -1, 0), (25, 0, 0), (0, -25, 0),
+    (0, 0, 25),
+    (26, 0, 0), (0, 26, 0), (0, 0, -26), (10 ** 40, 0, 0), (True, 0, 0), (0, False, 0), (0, 0, True), (2.0, 0, 0),
+    (0, None, 0), (0, 0, "2"), ((2, 0, 0),), ((1, 2), 0, 0), ([2], 0, 0), (0, (4, 2), 0),
+]
+
+NO_POLYS = [None, True, 0, 1, (1, 2), "x", "0", (), [], [(0, 0, 1)], ((1, 0, 1),), {}, 0.5, object(), Poly]
 
 NO_MACHINES = [None, True, 0, (), [], "machine 1 0", (1, (), (), (), 0), {}, object(), Machine]
 
@@ -145,6 +160,69 @@ def some_frames():
     for (s, t), o in product(lengths, [(0, 0), ((1, 2), -3)]):
         for to_a, to_b in product(some_turns() + [nearly], [(1, 0), (0, -1), ((-3, 5), (4, 5))]):
             yield s, t, o, gone(o, to_a, s), gone(o, to_b, t)
+
+
+def some_poly(seed, degree, many):
+    """A polynomial of a degree with so many terms, or as many as there can be."""
+    random = Random(seed)
+    places = [(i, j) for i in range(degree + 1) for j in range(degree + 1 - i)]
+    chosen = [random.choice([place for place in places if sum(place) == degree])]
+    chosen += random.sample([place for place in places if place != chosen[0]], min(many, len(places)) - 1)
+    return Poly([
+        (i, j, number(Fraction(random.choice([-7, -3, -2, -1, 1, 2, 5]), random.randint(1, 4)))) for i, j in chosen])
+
+
+def value_of(poly, point):
+    """The value of a polynomial at a point, by Python's fractions."""
+    x, y = fractions(point)
+    return sum((fraction(factor) * x ** i * y ** j for i, j, factor in poly.terms), Fraction(0))
+
+
+def pen_of(radius, a, b):
+    """Where the pen stands, by Python's fractions."""
+    (x, y), (u, v) = turn_times(a, 2), turn_times(b, 2)
+    return number(fraction(radius) * (x + u)), number(fraction(radius) * (y + v))
+
+
+def through(poly, radius, a, b):
+    """The polynomial with another constant, whose curve goes through the pen at a and b."""
+    off = value_of(poly, pen_of(radius, a, b))
+    return poly_sum(poly, Poly([(0, 0, number(-off))] if off else []))
+
+
+def times(point, many):
+    """A point times a number."""
+    return tuple(number(fraction(many) * part) for part in fractions(point))
+
+
+def total(*points):
+    """Points, added."""
+    return tuple(number(sum(parts)) for parts in zip(*[fractions(point) for point in points]))
+
+
+def listed(value):
+    """A value with lists in the place of tuples, all the way in."""
+    return [listed(item) for item in value] if isinstance(value, (list, tuple)) else value
+
+
+def mixed(value, depth=0):
+    """A value with lists and tuples in turns, all the way in."""
+    if not isinstance(value, (list, tuple)):
+        return value
+    return (list if depth % 2 else tuple)(mixed(item, depth + 1 + at) for at, item in enumerate(value))
+
+
+def shown(value):
+    """What a value tells: its class and its attributes where it is an object of the package."""
+    if isinstance(value, Poly):
+        return "Poly", value.terms, value.degree
+    if isinstance(value, Waves):
+        return "Waves", value.constant, value.rows, value.size
+    if isinstance(value, Machine):
+        return "Machine", value.many, value.pins, value.bars, value.beads, value.pen
+    if isinstance(value, Paper):
+        return type(value).__name__, value.word, value.parts, bool(value)
+    return value
 
 
 class Case(unittest.TestCase):

@@ -4,12 +4,11 @@ import unittest
 from fractions import Fraction
 from random import Random
 
-from helpers import NO_NUMBERS, NO_POINTS, NO_TURNS, Case, fraction, fractions, number, some_turns
+from helpers import NO_NUMBERS, NO_POINTS, NO_POLYS, NO_TURNS, Case, fraction, fractions, number, some_turns
 from typedcurve.errors import BadNumber, BadPoint, BadPoly, BadTurn, TooMany
 from typedcurve.polys import (
     Poly, moved, poly_product, poly_sum, poly_times, put_in, slope, stretched, turned_poly, value)
 
-NO_POLYS = [None, True, 0, 1, (1, 2), "x", "0", (), [], [(0, 0, 1)], ((1, 0, 1),), {}, 0.5, object(), Poly]
 POINTS = [(0, 0), (1, 0), [0, 1], ((1, 2), (-2, 3)), [-3, [7, 5]], ((10, 7), 4)]
 EAST, NORTH, ROUGH = Poly([(1, 0, 1)]), Poly([(0, 1, 1)]), Poly([(0, 1, (-1, 2)), [2, 1, 3], (0, 0, 4)])
 

@@ -5,20 +5,12 @@ import unittest
 from itertools import product
 from random import Random
 
-from helpers import NO_TURNS, Case, number, some_turns, turn_times
+from helpers import NO_TURNS, NO_WORDS, Case, number, some_turns, turn_times
 from typedcurve.errors import BadTurn, BadWord
 from typedcurve.turns import added, back_turn, by_half
 from typedcurve.words import is_word, made_of, steps, word_turn
 
 FIRST = [(0, 0, 0), (1, 0, 0), (0, 1, 0), (0, 0, 1)]
-NO_WORDS = [
-    None, True, 0, 7, "", "200", "2 0 0", b"200", (), [], (2,), (2, 0), (2, 0, 0, 0), {}, {0: 2, 1: 0, 2: 0}, 0.5,
-    object(),
-    (1, 1, 0), (1, 0, 1), (0, 1, 1), (1, 1, 1), (-1, 3, 0), (5, 2, -7), (-1, -1, 0), (25, 0, 0), (0, -25, 0),
-    (0, 0, 25),
-    (26, 0, 0), (0, 26, 0), (0, 0, -26), (10 ** 40, 0, 0), (True, 0, 0), (0, False, 0), (0, 0, True), (2.0, 0, 0),
-    (0, None, 0), (0, 0, "2"), ((2, 0, 0),), ((1, 2), 0, 0), ([2], 0, 0), (0, (4, 2), 0),
-]
 SOME_NUMBERS = [0, 1, -1, 2, -2, 3, -3, 4, -4, 5, 6, -7, 12, 16, -22, 23, -23, 24, -24]
 
 

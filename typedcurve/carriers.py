@@ -8,7 +8,7 @@ from typedcurve.points import ORIGIN, dot, halfway, leftward, point_sum, point_t
 from typedcurve.ratios import HALF, QUARTER, difference_of, is_less, product_of, quotient_of, sign_in, size_of, sum_of
 from typedcurve.spots import point_spot, spot_between, spot_of
 
-MANY = 8
+MANY_OF_CARRIER = 8
 MANY_OF_ARMS = 5
 
 
@@ -47,14 +47,14 @@ def carrier_parts(first, v, ray, number, length):
     if sign_in(number) == 0:
         raise BadNumber("number")
     need_above_nothing(length, "length")
-    w, start, moved, end, to_start, to_moved, v_to_start, moved_to_end = [first + at for at in range(MANY)]
+    w, start, moved, end, to_start, to_moved, v_to_start, moved_to_end = [first + at for at in range(MANY_OF_CARRIER)]
     long_bars = [(0, start, length), (w, moved, length), (v, start, length), (moved, end, length)]
     pairs = [(start, moved), (v, end), (to_start, to_moved), (v_to_start, moved_to_end)]
     beads = [
         (w, 0, ray, product_of(QUARTER, number)), (to_start, 0, start, HALF), (to_moved, w, moved, HALF),
         (v_to_start, v, start, HALF), (moved_to_end, moved, end, HALF)]
     bars = long_bars + [(one, other, size_of(number)) for one, other in pairs]
-    return bars_kept(bars, first + MANY), beads_kept(beads, first + MANY)
+    return bars_kept(bars, first + MANY_OF_CARRIER), beads_kept(beads, first + MANY_OF_CARRIER)
 
 
 def arm_points(radius, one, other):

@@ -11,7 +11,7 @@ from typedcurve.spots import point_spot
 from typedcurve.turns import added, back_turn, doubled
 
 WAYS = ("crossed", "parallel")
-MANY = 12
+MANY_OF_REFLECTOR = 12
 
 
 def reflected(x, y):
@@ -47,7 +47,12 @@ def reflector_places(x, y, side):
 def candidates(x, y):
     """How both frames can stand without locks, and at which turn the new ray stands then."""
     _need_rays(x, y)
-    return tuple([((big, small), _new_turn(x, y, big, small)) for big in WAYS for small in WAYS])
+    found = []
+    for big in WAYS:
+        for small in WAYS:
+            end = corners_by(x, y, big, small)[2]
+            found.append(((big, small), point_times(end, QUARTER)))
+    return tuple(found)
 
 
 def reflector_parts(first, x_ray, y_ray):
@@ -56,29 +61,28 @@ def reflector_parts(first, x_ray, y_ray):
     need_within(x_ray, 1, first - 3, "x_ray")
     need_within(y_ray, 1, first - 3, "y_ray")
     a_x, b_x, a_y = x_ray + 1, x_ray + 2, y_ray + 1
-    d, c, end, a, b, of_a_y, to_c, of_c, of_d, to_end, big, small = [first + at for at in range(MANY)]
+    d, c, end, a, b, of_a_y, to_c, of_c, of_d, to_end, big, small = [first + at for at in range(MANY_OF_REFLECTOR)]
     bars = [(d, b_x, 4), (d, end, 2), (c, a_y, 2), (end, 0, 4)]
     bars = bars + _lock_bars(big, lock_for(2, 4), (a_x, to_end), (of_d, b))
     bars = bars + _lock_bars(small, lock_for(1, 2), (of_a_y, of_c), (to_c, a_x))
     beads = [
         (c, b_x, d, QUARTER), (a, 0, end, QUARTER), (b, 0, end, HALF), (of_a_y, 0, a_y, HALF), (to_c, a_y, c, HALF),
         (of_c, b_x, c, HALF), (of_d, b_x, d, HALF), (to_end, d, end, HALF)]
-    return bars_kept(bars, first + MANY), beads_kept(beads, first + MANY)
+    return bars_kept(bars, first + MANY_OF_REFLECTOR), beads_kept(beads, first + MANY_OF_REFLECTOR)
+
+
+def corners_by(x, y, big, small):
+    """The points of D, C and R, the frames standing as they are told to."""
+    b_x = point_times(x, 2)
+    c = crossed_corner(ORIGIN, y, b_x) if small == "crossed" else parallel_corner(ORIGIN, y, b_x)
+    d = gone_on(b_x, c, 4)
+    end = way_from(b_x, d)
+    return d, c, mirrored(end, ORIGIN, d) if big == "crossed" else end
 
 
 def _need_rays(x, y):
     need_turn(x, "x")
     need_turn(y, "y")
-
-
-def _new_turn(x, y, big, small):
-    b_x = point_times(x, 2)
-    c = crossed_corner(ORIGIN, y, b_x) if small == "crossed" else parallel_corner(ORIGIN, y, b_x)
-    d = gone_on(b_x, c, 4)
-    end = way_from(b_x, d)
-    if big == "crossed":
-        end = mirrored(end, ORIGIN, d)
-    return point_times(end, QUARTER)
 
 
 def _lock_bars(key, lock, outer, inner):

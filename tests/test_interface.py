@@ -61,6 +61,22 @@ MODULES = {
         "Waves": "constant rows", "waves_sum": "one other", "waves_product": "one other", "waves_times": "waves number",
         "exchanged": "waves", "beat_turn": "beat a b", "worth_at": "waves a b", "slopes_at": "waves a b",
         "waves_of": "poly radius", "poly_of": "waves radius", "cosines": "waves"},
+    "cells": {"cell_of": "h reach", "cell_places": "h reach v sides", "cell_parts": "first v h reach"},
+    "plans": {
+        "terms_for": "poly radius", "reach_for": "poly radius", "words_for": "poly radius",
+        "count_for": "poly radius"},
+    "builds": {"machine_for": "poly radius", "rays_in": "poly radius", "end_in": "poly radius"},
+    "stands": {"Stands": "places", "Off": "by", "pen_at": "radius a b", "stands": "poly radius a b"},
+    "naive": {
+        "naive_machine": "poly radius", "naive_rays": "poly radius", "flipped_turns": "poly radius a b flips",
+        "naive_pen": "poly radius a b flips", "naive_stands": "poly radius a b flips",
+        "lured": "poly radius a b flips", "strays": "poly radius a b"},
+    "arms": {
+        "Halves": "boxes back", "Every": "", "Nowhere": "", "arm_row": "poly radius turn",
+        "other_arm": "poly radius turn near", "pens_at": "poly radius turn near"},
+    "ways": {"Way": "by_a by_b x y", "Knot": "", "way_at": "poly radius a b"},
+    "sketches": {"sketch": "poly radius many"},
+    "desk": {"Desk": ""},
 }
 
 
@@ -79,7 +95,7 @@ class TestInterface(unittest.TestCase):
 
     def test_classes_compare_by_themselves(self):
         for module_name, name in (("papers", "Paper"), ("papers", "Denial"), ("polys", "Poly"), ("waves", "Waves"),
-                                  ("machines", "Machine")):
+                                  ("machines", "Machine"), ("desk", "Desk")):
             kind = getattr(importlib.import_module("typedcurve." + module_name), name)
             self.assertIn("__eq__", vars(kind))
 
@@ -91,6 +107,14 @@ class TestInterface(unittest.TestCase):
             self.assertEqual(list(inspect.signature(vars(kind)[name]).parameters), parameters.split(), name)
         self.assertIn("read", vars(kind))
         self.assertEqual(list(inspect.signature(kind.read).parameters), ["text"])
+
+    def test_methods_of_the_desk(self):
+        kind = importlib.import_module("typedcurve.desk").Desk
+        for name, parameters in {"told": "self line", "back": "self", "twin": "self"}.items():
+            self.assertEqual(list(inspect.signature(vars(kind)[name]).parameters), parameters.split(), name)
+        self.assertEqual(
+            {name: getattr(kind(), name) for name in ("curve", "radius", "arms", "log")},
+            {"curve": None, "radius": 1, "arms": None, "log": ()})
 
     def test_the_package_is_one_folder_of_files(self):
         folder = os.path.dirname(importlib.import_module("typedcurve").__file__)

@@ -1,9 +1,25 @@
 """[3]: papers and denials."""
 
+import importlib
+import inspect
+import os
 import unittest
 
 from helpers import Case
+from typedcurve.arms import Every, Halves, Nowhere
 from typedcurve.papers import Denial, Paper, fixed
+from typedcurve.poses import Right, Torn
+from typedcurve.stands import Off, Stands
+from typedcurve.ways import Knot, Way
+
+# All classes of papers of the package, with the names of their parts; those of denials.
+KINDS = {
+    Right: "", Torn: "kind at", Stands: "places", Off: "by", Halves: "boxes back", Every: "", Nowhere: "",
+    Way: "by_a by_b x y", Knot: ""}
+DENIALS = (Torn, Off, Nowhere, Knot)
+PARTS = [
+    [[1, (2, [3])], None, "four", [[]]], [(1, (2, (3,))), True, {"a": [1]}, ((),)], [0, 0.5, b"x", object()],
+    [[[[[1]]]], [], (), [([],)]]]
 
 
 class Note(Paper):
@@ -97,6 +113,53 @@ class TestPapers(Case):
         note = Note("a", [[1], 2])
         self.same([note.word, note.parts, note.text, note.rows, bool(note)],
             ["note", ("a", ((1,), 2)), "a", ((1,), 2), True])
+
+
+class TestAllPapers(Case):
+    def test_words_parts_and_truth(self):
+        for kind, names in KINDS.items():
+            names = names.split()
+            for values in PARTS:
+                told = values[:len(names)]
+                for paper in (kind(*told), kind(**dict(zip(names, told))), kind(**dict(list(zip(names, told))[::-1]))):
+                    self.assertIs(type(paper), kind)
+                    self.same((paper.word, paper.parts), (kind.__name__.lower(), fixed(told)))
+                    for name, value in zip(names, told):
+                        self.same(getattr(paper, name), fixed(value))
+                    self.same(bool(paper), kind not in DENIALS)
+                    self.same((isinstance(paper, Paper), isinstance(paper, Denial)), (True, kind in DENIALS))
+
+    def test_equal_just_to_one_of_the_same_class_with_equal_parts(self):
+        papers = []
+        for kind, names in KINDS.items():
+            for values in PARTS[:3]:
+                papers.append((kind, fixed(values[:len(names.split())]), kind(*values[:len(names.split())])))
+        for kind, parts, paper in papers:
+            for other_kind, other_parts, other in papers:
+                self.same(paper == other, kind is other_kind and parts == other_parts)
+                self.same(paper != other, not (kind is other_kind and parts == other_parts))
+            for plain in (Paper(paper.word, *parts), Denial(paper.word, *parts), paper.word, parts, None):
+                self.same([paper == plain, plain == paper], [False, False])
+
+    def test_what_is_passed_stays(self):
+        for kind, names in KINDS.items():
+            passed = [[1, [2]] for _ in names.split()]
+            paper = kind(*passed)
+            for value in passed:
+                value[1].append(3)
+                value.append(4)
+            self.same(paper.parts, ((1, (2,)),) * len(passed))
+            self.same(passed, [[1, [2, 3], 4]] * len(passed))
+
+    def test_all_of_the_package(self):
+        folder = os.path.dirname(importlib.import_module("typedcurve").__file__)
+        found = []
+        for name in sorted(os.listdir(folder)):
+            if name.endswith(".py"):
+                module = importlib.import_module("typedcurve." + name[:-3])
+                found += [kind for kind in vars(module).values() if inspect.isclass(kind) and issubclass(kind, Paper)
+                    and kind.__module__ == module.__name__]
+        self.same({kind.__name__ for kind in found} - {"Paper", "Denial"} == {kind.__name__ for kind in KINDS}, True)
 
 
 class TestFixed(Case):
